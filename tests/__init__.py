@@ -1,0 +1,1 @@
+"""Tests of chordsounds; helper.py has what they share."""
