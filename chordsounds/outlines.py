@@ -1,13 +1,18 @@
 """The calls, as they are handed in and answered: one list of whole numbers each way."""
 
+from chordsounds.clashes import clashes_among
 from chordsounds.counting import count_ways
-from chordsounds.theory import Theory, is_theory, is_word, read_rules
-from chordsounds.writing import first_outlines
+from chordsounds.giving import give_out
+from chordsounds.reading import first_words
+from chordsounds.theory import Theory, is_chord, is_theory, is_word, read_rules
+from chordsounds.writing import MOST_OUTLINES, MOST_STROKES, first_outlines
 
 BEGIN = 0
 BEST = 1
 ALL = 2
 WAYS = 3
+SAID = 4
+GIVE = 5
 CLASH = 6
 
 # By a call's number: how many whole numbers it has ahead of its row.
@@ -18,7 +23,10 @@ TOO_MANY = -2
 NO_OUTLINE = -3
 NOT_BEGUN = -9
 
-MOST_OUTLINES = 16
+MOST_WORDS_SAID = 16
+MOST_STROKES_SAID = 3
+MOST_WORDS_GIVEN = 24
+MOST_IN_CLASH = 40
 TOO_MANY_WAYS = 9007199254740992
 
 
@@ -31,7 +39,9 @@ class Desk:
     def answer(self, number, ahead, row):
         if number == BEGIN:
             return self.begin(ahead[0], row)
-        if self.theory is None and number != CLASH:
+        if number == CLASH:
+            return told_clashes(read_rows(row))
+        if self.theory is None:
             return [NOT_BEGUN]
         if number == BEST:
             return self.best(row)
@@ -39,7 +49,9 @@ class Desk:
             return self.every(ahead[0], row)
         if number == WAYS:
             return self.ways(row)
-        raise NotImplementedError("said, give and clash are not built yet")
+        if number == SAID:
+            return self.said(ahead[0], row)
+        return self.give(read_rows(row))
 
     def begin(self, key_count, row):
         rules = read_rules(row)
@@ -66,6 +78,18 @@ class Desk:
             return [WRONG]
         return told_ways(count_ways(self.theory, word))
 
+    def said(self, most, outline):
+        if not 1 <= len(outline) <= MOST_STROKES_SAID or most > MOST_WORDS_SAID:
+            return [WRONG]
+        if not all([is_chord(chord, self.theory.key_count) for chord in outline]):
+            return [WRONG]
+        return [0] + told_rows(first_words(self.theory, outline, most))
+
+    def give(self, words):
+        if len(words) > MOST_WORDS_GIVEN or not all([is_word(word) for word in words]):
+            return [WRONG]
+        return [0] + told_rows(give_out(self.theory, words))
+
 
 def told_ways(count):
     if count >= TOO_MANY_WAYS:
@@ -73,8 +97,27 @@ def told_ways(count):
     return [0, count]
 
 
+def told_clashes(outlines):
+    if len(outlines) > MOST_IN_CLASH:
+        return [WRONG]
+    if any([len(outline) > MOST_STROKES or 0 in outline for outline in outlines]):
+        return [WRONG]
+    return [0] + told_rows(clashes_among([tuple(outline) for outline in outlines]))
+
+
+def read_rows(numbers):
+    """The rows that lie one behind another in a list, each behind how many numbers it has."""
+    rows = []
+    place = 0
+    while place < len(numbers):
+        end = place + 1 + numbers[place]
+        rows.append(numbers[place + 1:end])
+        place = end
+    return rows
+
+
 def with_count(row):
-    return [len(row)] + row
+    return [len(row)] + list(row)
 
 
 def told_rows(rows):

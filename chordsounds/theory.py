@@ -8,9 +8,10 @@ LAST_SOUND = 255
 
 
 class Rule:
-    """A chord that writes some sounds, with what is asked of its keys again and again."""
+    """Sounds and the chord that writes them, with what is asked of its keys again and again."""
 
-    def __init__(self, chord):
+    def __init__(self, sounds, chord):
+        self.sounds = sounds
         self.chord = chord
         self.size = count_keys(chord)
         self.lowest = (chord & -chord).bit_length() - 1
@@ -19,13 +20,14 @@ class Rule:
 
 
 class Theory:
-    """Rules by their sounds; keys and rules have been found right before."""
+    """How many keys there are, and the rules; both have been found right before."""
 
     def __init__(self, key_count, rules):
         self.key_count = key_count
+        self.rules = [Rule(sounds, chord) for sounds, chord in rules]
         self.by_sounds = {}
-        for sounds, chord in rules:
-            self.by_sounds.setdefault(sounds, []).append(Rule(chord))
+        for rule in self.rules:
+            self.by_sounds.setdefault(rule.sounds, []).append(rule)
 
     def fits(self, word):
         """For each end in the word, from 0 to its length: (start, rule) of the rules that write what lies between.
@@ -42,6 +44,10 @@ class Theory:
                         table[end].append((start, rule))
                         reaches[start] = True
         return table
+
+    def rules_that_begin(self, chord):
+        """The rules whose keys are just the lowest ones of the chord, so that all others come behind them."""
+        return [rule for rule in self.rules if chord & (1 << rule.above) - 1 == rule.chord]
 
 
 def count_keys(chord):

@@ -8,6 +8,7 @@ beginning wanted than are asked for of the word.
 """
 
 MOST_STROKES = 10
+MOST_OUTLINES = 16
 CHORD_BITS = 24
 FULL_CHORD = 16777215
 

@@ -36,6 +36,10 @@ def give(*words):
     return [5] + row([number for word in words for number in row(word)])
 
 
+def clash(*outlines):
+    return [6] + row([number for outline in outlines for number in row(outline)])
+
+
 def line(*calls):
     return [number for call in calls for number in call]
 
@@ -63,6 +67,11 @@ def after(keys, rules, *calls):
     if told[0] != [0]:
         raise ValueError(f"begin was refused: {told[0]}")
     return told[1:]
+
+
+def told_rows(rows):
+    """The answer that tells these rows."""
+    return [0, len(rows)] + [number for one in rows for number in row(one)]
 
 
 def rows_of(answer):
@@ -151,3 +160,64 @@ def outlines_tried_out(keys, rules, word):
             if says(rules, outline, word):
                 found.append(list(outline))
     return sorted(found, key=outline_order)
+
+
+def stroke_rows(rules, chord):
+    """Each row of sounds that the stroke says."""
+    found = []
+    for sounds, rule_chord in rules:
+        rest = chord - rule_chord
+        if rest == 0:
+            found.append(tuple(sounds))
+        elif chord & rule_chord == rule_chord and max(keys_of(rule_chord)) < min(keys_of(rest)):
+            found += [tuple(sounds) + behind for behind in stroke_rows(rules, rest)]
+    return sorted(set(found))
+
+
+def slow_said(rules, outline):
+    """All words that the outline may say, in order."""
+    parts = product(*[stroke_rows(rules, chord) for chord in outline])
+    words = {tuple(sound for part in row_of_parts for sound in part) for row_of_parts in parts}
+    return [list(word) for word in sorted(words) if len(word) <= 12]
+
+
+def words_tried_out(rules, outline, sounds, most):
+    """All words of some sounds tried, up to a length: slower still, and it makes up no word."""
+    words = [word for length in range(1, most + 1) for word in product(sounds, repeat=length)]
+    return [list(word) for word in sorted(words) if says(rules, tuple(outline), word)]
+
+
+def clash_order(told):
+    of_two = told[2] == 1000
+    return max(told[:2] if of_two else told), 0 if of_two else 1, told
+
+
+def slow_clashes(outlines):
+    words = [number for number, outline in enumerate(outlines) if outline]
+    found = [[one, two, 1000] for one, two in combinations(words, 2) if list(outlines[one]) == list(outlines[two])]
+    for c, a, b in product(words, repeat=3):
+        if c not in (a, b) and list(outlines[c]) == list(outlines[a]) + list(outlines[b]):
+            found.append([c, a, b])
+    return sorted(found, key=clash_order)
+
+
+def slow_given(rules, words):
+    given = []
+    for word in words:
+        free = [one for one in slow_outlines(rules, word)[:16] if not slow_clashes(given + [one])]
+        given.append(free[0] if free else [])
+    return given
+
+
+def any_rules(source, keys, sounds, most_rules, most_sounds):
+    rules = {}
+    for _ in range(source.randint(0, most_rules)):
+        length = source.randint(1, most_sounds)
+        rule_sounds = tuple(source.randint(1, sounds) for _ in range(length))
+        chord = source.choice([source.randint(1, (1 << keys) - 1), 1 << source.randint(0, keys - 1)])
+        rules[rule_sounds, chord] = True
+    return sorted(rules)
+
+
+def any_word(source, sounds, most):
+    return tuple(source.randint(1, sounds) for _ in range(source.randint(1, most)))

@@ -2,7 +2,7 @@
 
 import unittest
 
-from tests.helper import EXAMPLE, after, best, every, rows_of, slow_ways, ways
+from tests.helper import EXAMPLE, after, asked, best, clash, every, rows_of, said, slow_ways, ways
 
 
 class Examples(unittest.TestCase):
@@ -26,6 +26,20 @@ class Examples(unittest.TestCase):
 
     def test_a_sound_that_no_rule_has(self):
         self.assertEqual(self.ask(best(5)), [-3])
+
+    def test_what_a_stroke_says(self):
+        self.assertEqual(self.ask(said(16, 10)), [0, 1, 2, 2, 3])
+        self.assertEqual(self.ask(said(1, 10)), [0, 1, 2, 2, 3])
+
+    def test_clashes(self):
+        for outlines, told in (
+            ([[10], [10]], [0, 1, 3, 0, 1, 1000]),
+            ([[8], [3], [8, 3]], [0, 1, 3, 2, 0, 1]),
+            ([[8], [8, 8]], [0, 1, 3, 1, 0, 0]),
+            ([[], []], [0, 0]),
+        ):
+            self.assertEqual(asked(clash(*outlines)), [told])
+            self.assertEqual(self.ask(clash(*outlines)), told)
 
 
 if __name__ == "__main__":
